@@ -1,0 +1,1 @@
+"""windowtable: window functions over a table that changes."""
