@@ -1,4 +1,5 @@
-"""What the document says of order, frames and functions (o1, o2, f1 to f5, g1), row by row and as slow as it is told.
+"""What the document says of order, frames, functions and columns (o1, o2, f1 to f5, g1, k1), row by row and as slow as
+it is told.
 
 It is written apart from the program, to hold the program against it. Rows are pairs (id, cells) everywhere.
 """
@@ -113,3 +114,58 @@ def frame(line, keys, told, place):
         if not out:
             inside.append(at)
     return tuple(inside)
+
+
+def value(rows, keys, definition, column, row_id):
+    """The value of a definition for a row; rows are its partition (g1)."""
+    line = order(rows, keys)
+    m = len(line)
+    i = [row[0] for row in line].index(row_id)
+    function, n, told = definition[1], definition[3], definition[6]
+    if function == "number":
+        return i + 1
+    if function == "rank":
+        return 1 + min(at for at in range(m) if are_peers(line[at], line[i], keys))
+    if function == "dense":
+        return 1 + group_of(line, keys, i)
+    if function == "tile":
+        q, r = m // n, m % n
+        return i // (q + 1) + 1 if i < r * (q + 1) else r + (i - r * (q + 1)) // q + 1
+    if function in ("lag", "lead"):
+        at = i - n if function == "lag" else i + n
+        return line[at][1][column] if at in range(m) else None
+    inside = [line[at] for at in frame(line, keys, told, i)]
+    if function == "nth":
+        return inside[n - 1][1][column] if len(inside) >= n else None
+    return of_values(function, [None if column is None else cells[column] for _, cells in inside])
+
+
+def of_values(function, values):
+    """The value of a function for the values of a frame in order."""
+    if function == "size":
+        return len(values)
+    if function in ("first", "last"):
+        return None if not values else values[0] if function == "first" else values[-1]
+    there = [worth for worth in values if worth is not None]
+    if function == "count":
+        return len(there)
+    if function == "different":
+        return sum(1 for at, worth in enumerate(there) if worth not in there[:at])
+    if not there:
+        return None
+    if function == "sum":
+        total = 0
+        for worth in there:
+            total += worth
+        return total
+    ascending = sorted(there, key=functools.cmp_to_key(compare))
+    return {"least": ascending[0], "greatest": ascending[-1], "median": ascending[(len(there) - 1) // 2]}[function]
+
+
+def column(definition, columns, rows):
+    """The dict of the values of a definition for rows with the cells of all columns (k1)."""
+    names = [name for name, _ in columns]
+    keys = tuple((names.index(name), descending) for name, descending in definition[5])
+    numbers = [names.index(name) for name in definition[4]]
+    number = None if definition[2] is None else names.index(definition[2])
+    return {row[0]: value(partition(rows, numbers, row), keys, definition, number, row[0]) for row in rows}
