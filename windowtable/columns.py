@@ -22,5 +22,10 @@ def evaluate(columns, definitions, rows):
     told = tuple(by_ids(rows))
     for number, definition in enumerate(definitions):
         values = column_of(definition, known[:len(columns) + number], told)
-        told = tuple([(row_id, cells + (values[row_id],)) for row_id, cells in told])
+        told = with_values(told, values)
     return told
+
+
+def with_values(rows, values):
+    """The tuple of rows with one cell more each, values being a dict from their ids."""
+    return tuple([(row_id, cells + (values[row_id],)) for row_id, cells in rows])

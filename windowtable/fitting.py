@@ -12,6 +12,11 @@ def kinds_by_name(columns):
     return {name: kind for name, kind in columns}
 
 
+def numbers_by_name(columns):
+    """A dict from the names of columns to their numbers."""
+    return {name: number for number, (name, _) in enumerate(columns)}
+
+
 def names_used(definition):
     """The list of the names of columns behind the =, in the order of the text."""
     column, partition, order = definition[2], definition[4], definition[5]
@@ -60,6 +65,11 @@ def all_columns(columns, definitions):
 def parts(definition, columns):
     """The numbers of the columns of a partition, its keys by numbers, and the number of its column or None."""
     column, partition, order = definition[2], definition[4], definition[5]
-    numbers = {name: number for number, (name, _) in enumerate(columns)}
-    keys = tuple([(numbers[name], descending) for name, descending in order])
+    numbers = numbers_by_name(columns)
+    keys = keys_by_number(order, numbers)
     return (tuple([numbers[name] for name in partition]), keys, None if column is None else numbers[column])
+
+
+def keys_by_number(order, numbers):
+    """The keys (c6) of an order that tells them by names, numbers being a dict from names."""
+    return tuple([(numbers[name], descending) for name, descending in order])

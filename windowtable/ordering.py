@@ -8,6 +8,11 @@ def by_ids(rows):
     return sorted(rows, key=lambda row: row[0])
 
 
+def cells_at(cells, numbers):
+    """The tuple of the cells in the columns of these numbers."""
+    return tuple([cells[number] for number in numbers])
+
+
 def values_key(cells, numbers):
     """A tuple that is the same for cells with the same values in the columns of these numbers, and sorts them."""
     return tuple([key_of(cells[number]) for number in numbers])
@@ -19,6 +24,12 @@ def partitions(rows, numbers):
     for row_id, cells in by_ids(rows):
         found.setdefault(values_key(cells, numbers), []).append(row_id)
     return [tuple(found[key]) for key in sorted(found)]
+
+
+def partition_of(rows, numbers, row_id):
+    """The tuple of the rows of the partition of a row, by the columns of these numbers."""
+    found = {other: values_key(cells, numbers) for other, cells in rows}
+    return tuple([row for row in rows if found[row[0]] == found[row_id]])
 
 
 def by_column(rows, column, descending):
