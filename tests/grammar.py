@@ -1,6 +1,7 @@
 """The language of definitions written down once more, apart from the program, to hold the program against it.
 
-An expression is the name of a token or a kind of token, ("seq", expressions) or ("or", expressions).
+An expression is the name of a token or a kind of token, ("seq", expressions), ("or", expressions), or ("rule", a name
+of RULES), where a language has an expression that stands within itself.
 A row of tokens is followed by derivatives: behind a token there stands the expression for all that can still come.
 An expression for which nothing can come any more is NEVER: then no definition goes on with that token.
 """
@@ -18,6 +19,9 @@ EXCLUSIONS = ("current", "group", "ties")
 
 EMPTY = ("seq", ())
 NEVER = ("or", ())
+RULES = {}
+# Kinds of tokens of other languages: functions that tell whether a token is of the kind.
+KINDS = {}
 
 
 def seq(*parts):
@@ -62,6 +66,8 @@ def token_fits(kind, token):
         return re.fullmatch("0|[1-9][0-9]{0,3}", token) is not None
     if kind == "COUNT":
         return re.fullmatch("[1-9][0-9]{0,3}", token) is not None
+    if kind in KINDS:
+        return KINDS[kind](token)
     return kind == token
 
 
@@ -70,6 +76,8 @@ def can_end(expression):
     if isinstance(expression, str):
         return False
     kind, parts = expression
+    if kind == "rule":
+        return can_end(RULES[parts])
     if kind == "seq":
         return all(can_end(part) for part in parts)
     return any(can_end(part) for part in parts)
@@ -81,14 +89,18 @@ def behind(expression, token):
     if isinstance(expression, str):
         return EMPTY if token_fits(expression, token) else NEVER
     kind, parts = expression
+    if kind == "rule":
+        return behind(RULES[parts], token)
     found = []
     for at, part in enumerate(parts):
         rest = behind(part, token)
         if rest != NEVER:
-            found.append(("seq", (rest, *parts[at + 1:])) if kind == "seq" else rest)
+            # What is empty is left out, so that expressions do not grow along a text.
+            ahead = () if rest == EMPTY else rest[1] if rest[0] == "seq" else (rest,)
+            found.append(("seq", (*ahead, *parts[at + 1:])) if kind == "seq" else rest)
         if kind == "seq" and not can_end(part):
             break
-    return ("or", tuple(found))
+    return found[0] if len(found) == 1 else ("or", tuple(found))
 
 
 def tokens_of(text):
@@ -97,10 +109,13 @@ def tokens_of(text):
 
 def refusal(text):
     """The pair of number and reason with which a text is refused; None for a definition."""
+    return refusal_of(text, tokens_of(text), DEFINITION)
+
+
+def refusal_of(text, tokens, expression):
+    """The same for the text of another language with these tokens."""
     if len(text) > 200:
         return (0, "text too long")
-    tokens = tokens_of(text)
-    expression = DEFINITION
     for number, token in enumerate(tokens, 1):
         expression = behind(expression, token)
         if expression == NEVER:

@@ -57,9 +57,14 @@ def read_partition(reader):
     """Reads the names of a partition, if one is written."""
     if not reader.skip("partition"):
         return ()
+    return read_names(reader, MOST_NAMES)
+
+
+def read_names(reader, most):
+    """Reads names with commas between them, so many at the most."""
     names = [reader.take_name()]
     # A comma behind the last possible name is left for the caller, where it fits nowhere.
-    while len(names) < MOST_NAMES and reader.skip(","):
+    while len(names) < most and reader.skip(","):
         names.append(reader.take_name())
     return tuple(names)
 

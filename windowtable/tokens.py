@@ -45,29 +45,43 @@ def is_number(token):
     return token == "0" or token[0] != "0"
 
 
+def run_end(text, at):
+    """The place behind the run of letters a to z and digits that begins at a place of a text."""
+    end = at
+    while end < len(text) and is_run(text[end]):
+        end += 1
+    return end
+
+
+def token_end(text, at):
+    """The place behind the token that begins at a place of a text: a run, or a character by itself."""
+    return max(at + 1, run_end(text, at))
+
+
+def cut(text, end_of):
+    """The list of the tokens of a text; end_of tells where the one that begins at a place ends."""
+    tokens = []
+    at = 0
+    while at < len(text):
+        end = end_of(text, at)
+        if text[at] not in BLANKS:
+            tokens.append(text[at:end])
+        at = end
+    return tokens
+
+
 def split_tokens(text):
     """The list of the tokens of a text; one that fits nowhere stands there as it is."""
-    tokens = []
-    run = ""
-    for sign in text:
-        if is_run(sign):
-            run += sign
-            continue
-        if run:
-            tokens.append(run)
-            run = ""
-        if sign not in BLANKS:
-            tokens.append(sign)
-    if run:
-        tokens.append(run)
-    return tokens
+    return cut(text, token_end)
 
 
 class Reader:
     """Passes tokens one by one, and refuses the first one that does not fit."""
 
-    def __init__(self, tokens):
+    def __init__(self, tokens, barred=()):
         self.tokens = tokens
+        # Words of another language than that of definitions, which are no names there, either.
+        self.barred = barred
         self.at = 0
 
     def ahead(self):
@@ -105,7 +119,7 @@ class Reader:
     def take_name(self):
         """Passes the next token, which must be a name, and returns it."""
         token = self.ahead()
-        if not is_name(token):
+        if not is_name(token) or token in self.barred:
             self.refuse()
         self.at += 1
         return token
